@@ -1,0 +1,1 @@
+"""A telephone exchange: lines, numbers, groups, calls and the switches between them."""
