@@ -55,7 +55,47 @@ def dial(line, digits):
     return [lift(line)] + [digit(line, int(sign)) for sign in digits]
 
 
-LATER_CALLS = [[10, 0], [11, 5], [12, 0], [13, 0], [14, 0], [15, 0], [16] + row("12"), [17]]
+def hang(line):
+    return [10, line]
+
+
+def tick(time):
+    return [11, time]
+
+
+def look(line):
+    return [12, line]
+
+
+def middle(switch):
+    return [13, switch]
+
+
+def owes(line):
+    return [14, line]
+
+
+def record(place):
+    return [15, place]
+
+
+def owner(digits):
+    return [16] + row(digits)
+
+
+def counts():
+    return [17]
+
+
+def town(n, r, m):
+    """Each line has its own number: two digits, the line."""
+    return [begin(n, r, m)] + [number(line, f"{line:02d}") for line in range(n * r)]
+
+
+ONE_OF_EACH = [
+    number(0, "1"), clear(0), group("1", [0]), price(1, "1"), hand(0, 0, "1"), wait(1), lift(0), digit(0, 1), hang(0),
+    tick(5), look(0), middle(0), owes(0), record(0), owner("12"), counts()
+]
 
 
 def flat(calls):

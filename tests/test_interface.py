@@ -1,11 +1,9 @@
-import random
 import unittest
 
-from calling import (LATER_CALLS, TOP, Watched, begin, clear, dial, digit, flat, group, hand, last, lift, number, price,
-                     row, split_up, wait)
+from calling import (ONE_OF_EACH, TOP, begin, clear, counts, dial, digit, flat, group, hand, hang, lift, look, middle,
+                     number, owes, owner, price, record, split_up, tick, wait)
 
 from townexchange.exchange import answers
-from townexchange.numbering import begins, numbers_there
 
 
 class Sealed(list):
@@ -35,15 +33,24 @@ class Layout(unittest.TestCase):
                      hand(0, 0, twenty)):
             self.assertEqual(split_up(answers(flat([begin(1, 2, 1), call, lift(1)])))[1:], [(-1, []), (1, [])])
 
-    def test_the_calls_behind_a_later_one_are_read(self):
-        for call in LATER_CALLS + [[16] + row([]), [16] + row([8] * 20)]:
-            given = split_up(answers(flat([begin(2, 2, 2), call, lift(1), number(0, "1"), lift(1)])))
+    def test_the_call_behind_each_call_is_read(self):
+        for call in ONE_OF_EACH + [owner([]), owner([8] * 20)]:
+            given = split_up(answers(flat([begin(2, 2, 2), call, lift(1), number(3, "2"), lift(1)])))
             self.assertEqual(len(given), 5, call)
             self.assertEqual(given[2:], [(1, []), (0, []), (-5, [])], call)
 
+    def test_the_answers_of_the_calls_that_tell(self):
+        calls = [begin(2, 2, 2), number(1, "12"), price(3, "1"), *dial(0, "12"), look(1), middle(0), lift(1), tick(61),
+                 hang(1), look(0), look(1), owes(0), record(0), record(1), owner("1"), owner("12"), owner("2"),
+                 counts()]
+        wanted = [2, 4, 0, 2, 0, 0, 2, 0, 0, 2, 1, 0, 3, 1, 1, 0, 3, 3, 1, 0, 7, 5, 5, 0, 1, 0, 0, 0, 4, 1, 2, 0, 1,
+                  2, 2, 0, 3, 0, 1, 0, 3, 0, 1, 6, 2, 4, 0, 2, 0, 0, 2, 6, 0, 7, 0, 5, 0, 1, 0, 61, 6, 2, -3, 0,
+                  2, 0, 0, 3, 1, 1, 1, 2, -4, 0, 6, 0, 4, 0, 1, 0, 61]
+        self.assertEqual(answers(flat(calls)), wanted)
+
     def test_what_is_handed_in_is_not_changed(self):
         calls = flat([begin(2, 2, 2), number(1, "12"), group("3", [2, 3]), price(5, "1"), hand(1, 0, "3"), wait(3),
-                      *dial(0, "12"), clear(1), *LATER_CALLS])
+                      *dial(0, "12"), clear(1), *ONE_OF_EACH])
         kept = list(calls)
         given = answers(Sealed(calls))
         self.assertEqual(answers(calls), given)
@@ -66,68 +73,3 @@ class Layout(unittest.TestCase):
         given = split_up(answers(flat(calls)))
         self.assertEqual(len(given), 400)
         self.assertEqual(given[383:386], [(1, []), (3, [0]), (-1, [])])
-
-
-def some_digits(chance):
-    many = chance.choice([0, 1, 1, 1, 2, 2, 2, 3, 8, 9])
-    return [chance.choice([0, 1, 2, 3, 3, 3, 10]) if chance.random() < 0.2 else chance.randint(0, 3)
-            for place in range(many)]
-
-
-def some_call(chance, lines):
-    line = chance.randint(0, lines)
-    return chance.choice([
-        lambda: number(line, some_digits(chance)),
-        lambda: number(line, some_digits(chance)),
-        lambda: clear(line),
-        lambda: group(some_digits(chance), [chance.randint(0, lines) for place in range(chance.randint(0, 4))]),
-        lambda: price(chance.choice([0, 5, 1000, 1001]), some_digits(chance)),
-        lambda: hand(line, chance.randint(0, 3), some_digits(chance)),
-        lambda: wait(chance.choice([0, 1, 30, 1000, 1001])),
-        lambda: lift(line),
-        lambda: lift(line),
-        lambda: digit(line, chance.choice([0, 1, 2, 3, 10])),
-        lambda: digit(line, chance.choice([0, 1, 2, 3])),
-        lambda: digit(line, chance.choice([0, 1, 2, 3])),
-        lambda: chance.choice(LATER_CALLS),
-        lambda: begin(chance.randint(0, 9), chance.randint(0, 9), chance.randint(0, 17))
-        if chance.random() < 0.05 else lift(line),
-    ])()
-
-
-class Promises(unittest.TestCase):
-    def check(self, exchange):
-        numbers = numbers_there(exchange)
-        for place, one in enumerate(numbers):
-            self.assertFalse([other for other in numbers[:place] + numbers[place + 1:] if begins(one, other)])
-        in_calls = [line for call in exchange.calls for line in (call.caller, call.called)]
-        self.assertEqual(len(set(in_calls)), len(in_calls))
-        for place, line in enumerate(exchange.lines):
-            self.assertEqual(line.state in (2, 3, 5), place in in_calls)
-            self.assertEqual(line.call is not None, place in in_calls)
-        for call in exchange.calls:
-            self.assertLessEqual(call.handed_on, 5)
-            self.assertIn((exchange.lines[call.caller].state, exchange.lines[call.called].state), [(3, 5), (2, 2)])
-
-    def test_whatever_is_called(self):
-        chance = random.Random(2)
-        reached = {}
-        for turn in range(120):
-            n, r = chance.randint(1, 4), chance.randint(1, 5)
-            m = n if chance.random() < 0.7 else 16
-            calls = [begin(n, r, m)]
-            seen = Watched(*calls)
-            for step in range(200):
-                call = some_call(chance, n * r)
-                calls.append(call)
-                before = seen.picture()
-                answer = seen.do(call)
-                reached[(call[0], answer[0])] = True
-                if answer[0] < 0:
-                    self.assertEqual(seen.picture(), before, call)
-                self.check(seen.exchange)
-            self.assertEqual(last(*calls), (answer[0], answer[1:]))
-        wanted = [(2, 0), (2, -1), (2, -5), (2, -6), (3, 0), (3, -1), (3, -3), (4, 0), (4, -1), (4, -6), (5, 0),
-                  (5, -1), (6, 0), (6, -1), (7, 0), (7, -1), (8, 1), (8, 2), (8, -1), (8, -5), (9, 1), (9, 3),
-                  (9, 4), (9, -1), (9, -5)]
-        self.assertEqual([pair for pair in wanted if pair not in reached], [])

@@ -1,7 +1,7 @@
 import unittest
 
 from calling import (DIALS, IDLE, RINGS, TALKS, TONE, TOP, WAITS, Kept, Watched, ask, begin, clear, dial, digit, group,
-                     hand, last, lift, number)
+                     hand, hang, last, lift, number, tick)
 
 
 class Lift(Kept):
@@ -14,14 +14,12 @@ class Lift(Kept):
 
     def test_no_digits_so_far_whatever_was_dialed_before(self):
         seen = Watched(begin(2, 2, 2), number(1, "12"), *dial(0, "1"))
-        seen.exchange.lines[0].state = IDLE
-        self.assertEqual(seen.do(lift(0)), [1])
+        self.assertEqual(seen.do(hang(0), lift(0)), [1])
         self.assertEqual(seen.do(digit(0, 2)), [TONE, 0])
 
     def test_one_that_rings_talks_and_so_does_who_called(self):
         seen = Watched(begin(2, 2, 2), number(2, "1"), *dial(1, "1"))
-        seen.exchange.time = 17
-        self.assertEqual(seen.do(lift(2)), [2])
+        self.assertEqual(seen.do(tick(17), lift(2)), [2])
         self.assertEqual(seen.states(), [IDLE, TALKS, TALKS, IDLE])
         call = seen.exchange.calls[0]
         self.assertEqual((call.rings_since, call.talks_since), (0, 17))
@@ -73,8 +71,7 @@ class Digit(Kept):
         self.assertEqual(seen.do(digit(0, 2)), [TONE, 0])
 
     def test_a_lines_number(self):
-        seen = Watched(begin(2, 2, 2), number(3, "12"))
-        seen.exchange.time = 5
+        seen = Watched(begin(2, 2, 2), number(3, "12"), tick(5))
         self.assertEqual(seen.do(*dial(0, "12")), [WAITS, 0])
         self.assertEqual(seen.states(), [WAITS, IDLE, IDLE, RINGS])
         call = seen.exchange.calls[0]
@@ -228,7 +225,8 @@ class HandedOn(unittest.TestCase):
                 self.ends(numbers + hands + busy, "1", called, times)
 
     def test_the_sixth_time_neither_rings_nor_goes_to_a_group(self):
-        chain = [number(line, str(line)) for line in range(1, 7)] + [hand(line, 0, str(line + 1)) for line in range(1, 6)]
+        chain = [number(line, str(line)) for line in range(1, 7)]
+        chain += [hand(line, 0, str(line + 1)) for line in range(1, 6)]
         self.ends(chain + [hand(6, 0, "7"), group("7", [8])], "1", None, 0)
         self.ends(chain[:-1] + [hand(5, 0, "7"), group("7", [8])], "1", 8, 5)
         self.ends(chain + [hand(6, 1, "7"), group("7", [8])], "1", 6, 5)

@@ -1,11 +1,7 @@
 import random
 import unittest
 
-from calling import IDLE, RINGS, TALKS, WAITS, Watched, begin, dial, lift, number
-
-
-def town_with_numbers(n, r, m):
-    return Watched(begin(n, r, m), *[number(line, f"{line:02d}") for line in range(n * r)])
+from calling import IDLE, RINGS, TALKS, WAITS, Watched, counts, dial, hang, lift, town
 
 
 def hang_together(n, calls, last_switch):
@@ -27,25 +23,25 @@ class Ways(unittest.TestCase):
         return seen.do(*dial(caller, f"{called:02d}"))
 
     def test_the_least_that_is_free_at_both(self):
-        seen = town_with_numbers(3, 3, 5)
+        seen = Watched(*town(3, 3, 5))
         for caller, called, way in ((0, 3, 0), (1, 4, 1), (6, 5, 2), (2, 7, 2)):
             self.assertEqual(self.call(seen, caller, called), [WAITS, 0])
             self.assertEqual(seen.calls()[-1], (caller, called, way))
 
     def test_a_line_calls_from_the_first_stage_and_is_called_at_the_last(self):
-        seen = town_with_numbers(2, 2, 2)
+        seen = Watched(*town(2, 2, 2))
         self.assertEqual(self.call(seen, 0, 2), [WAITS, 0])
         self.assertEqual(self.call(seen, 3, 1), [WAITS, 0])
         self.assertEqual(seen.calls(), [(0, 2, 0), (3, 1, 0)])
 
     def test_within_one_switch(self):
-        seen = town_with_numbers(4, 1, 4)
+        seen = Watched(*town(4, 1, 4))
         self.assertEqual(self.call(seen, 0, 1), [WAITS, 0])
         self.assertEqual(self.call(seen, 3, 2), [WAITS, 0])
         self.assertEqual(seen.calls(), [(0, 1, 0), (3, 2, 1)])
 
     def blocked(self):
-        seen = town_with_numbers(2, 5, 2)
+        seen = Watched(*town(2, 5, 2))
         for caller, called in ((0, 2), (1, 4), (6, 8)):
             self.assertEqual(self.call(seen, caller, called), [WAITS, 0])
         self.assertEqual(seen.calls(), [(0, 2, 0), (1, 4, 1), (6, 8, 0)])
@@ -55,6 +51,16 @@ class Ways(unittest.TestCase):
         seen = self.blocked()
         self.assertEqual(self.call(seen, 7, 5), [WAITS, 2])
         self.assertEqual(seen.calls(), [(0, 2, 1), (1, 4, 0), (6, 8, 0), (7, 5, 1)])
+
+    def test_the_least_that_is_free_at_one_alone(self):
+        """At the caller's switch 2 and 3 are free, at the other 0 and 1: 2 is left, 0 is taken."""
+        seen = Watched(*town(3, 7, 4))
+        calls = [(0, 9, 0), (1, 10, 1), (2, 6, 2), (3, 12, 0), (4, 13, 1), (5, 7, 3), (15, 18, 0), (16, 19, 1)]
+        for caller, called, way in calls:
+            self.assertEqual(self.call(seen, caller, called), [WAITS, 0])
+        self.assertEqual(seen.calls(), calls)
+        self.assertEqual(self.call(seen, 17, 8), [WAITS, 2])
+        self.assertEqual(seen.calls(), [(0, 9, 2), (1, 10, 1), (2, 6, 0)] + calls[3:] + [(17, 8, 2)])
 
     def test_who_is_moved_talks_on(self):
         seen = self.blocked()
@@ -71,12 +77,12 @@ class Ways(unittest.TestCase):
         calls = ((10, 12), (11, 2), (0, 3), (1, 4), (6, 8))
         # Each call that is taken out of the row leaves one less to be moved.
         for gone in range(4):
-            seen = town_with_numbers(2, 7, 2)
+            seen = Watched(*town(2, 7, 2))
             for caller, called in calls:
                 self.assertEqual(self.call(seen, caller, called), [WAITS, 0])
             self.assertEqual([call[2] for call in seen.calls()], [0, 1, 0, 1, 0])
-            for place in range(gone):
-                seen.exchange.calls.pop(0)
+            for caller, called in calls[:gone]:
+                self.assertEqual(seen.do(hang(caller)), [0])
             self.assertEqual(self.call(seen, 7, 5), [WAITS, 4 - gone])
             self.assertEqual([call[2] for call in seen.calls()], [1, 0, 1, 0, 0, 1][gone:])
 
@@ -121,7 +127,7 @@ class Ways(unittest.TestCase):
 
     def busy_day(self, sizes, chance):
         n, r, m = sizes
-        seen = town_with_numbers(n, r, m)
+        seen = Watched(*town(n, r, m))
         # Ways grow scarce where whole switches call and others are called: some lines keep to one of both.
         calling = [line for line in range(n * r) if line // n < r // 2 or chance.random() < 0.2]
         moved = 0
@@ -140,12 +146,14 @@ class Ways(unittest.TestCase):
             self.check_step(sizes, before, seen.calls(), answer[1])
             self.check_rules(sizes, seen, answer[1])
             moved += answer[1]
+        self.assertEqual(seen.do(counts())[3], moved)
         return moved
 
     def end_some_call(self, seen, chance):
         if len(seen.exchange.calls) == 0:
             return
-        call = seen.exchange.calls.pop(chance.randrange(len(seen.exchange.calls)))
-        for place in (call.caller, call.called):
-            seen.exchange.lines[place].state = IDLE
-            seen.exchange.lines[place].call = None
+        caller, called, way = chance.choice(seen.calls())
+        if chance.random() < 0.5:
+            self.assertEqual(seen.do(hang(caller)), [0])
+        else:
+            self.assertEqual(seen.do(lift(called), hang(called), hang(caller)), [0])

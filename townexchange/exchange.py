@@ -2,9 +2,12 @@
 
 from townexchange.hall import Exchange, Town
 from townexchange.orders import clear_number, give_number, hand_on, make_group, set_wait, tell_price
-from townexchange.phone import lift, press_digit
-from townexchange.reading import BEGIN, CLEAR, DIGIT, GROUP, HAND, LIFT, NUMBER, OF_A_LINE, PRICE, WAIT, read_requests
-from townexchange.refusals import NONE_SUCH, NOT_BEGUN, NOT_WRITTEN_YET
+from townexchange.passing import pass_time
+from townexchange.phone import hang, lift, press_digit
+from townexchange.reading import BEGIN, CLEAR, DIGIT, GROUP, HAND, HANG, LIFT, NUMBER, OF_A_LINE, PRICE, WAIT
+from townexchange.reading import LOOK, MIDDLE, OWES, OWNER, RECORD, TICK, read_requests
+from townexchange.refusals import NONE_SUCH, NOT_BEGUN
+from townexchange.telling import look_at_line, look_at_middle, tell_counts, tell_owed, tell_owner, tell_record
 
 MOST_LINES_EACH = 8
 MOST_SWITCHES = 8
@@ -29,7 +32,7 @@ def begin(town, request):
     return [len(town.exchange.lines)]
 
 
-def answer_of(exchange, request):
+def answer_of_order(exchange, request):
     if request.kind == NUMBER:
         return give_number(exchange, request)
     if request.kind == CLEAR:
@@ -40,13 +43,39 @@ def answer_of(exchange, request):
         return tell_price(exchange, request)
     if request.kind == HAND:
         return hand_on(exchange, request)
-    if request.kind == WAIT:
-        return set_wait(exchange, request)
+    return set_wait(exchange, request)
+
+
+def answer_of_doing(exchange, request):
     if request.kind == LIFT:
         return lift(exchange, request)
     if request.kind == DIGIT:
         return press_digit(exchange, request)
-    return [NOT_WRITTEN_YET]
+    if request.kind == HANG:
+        return hang(exchange, request)
+    return pass_time(exchange, request)
+
+
+def answer_of_telling(exchange, request):
+    if request.kind == LOOK:
+        return look_at_line(exchange, request)
+    if request.kind == MIDDLE:
+        return look_at_middle(exchange, request)
+    if request.kind == OWES:
+        return tell_owed(exchange, request)
+    if request.kind == RECORD:
+        return tell_record(exchange, request)
+    if request.kind == OWNER:
+        return tell_owner(exchange, request)
+    return tell_counts(exchange)
+
+
+def answer_of(exchange, request):
+    if request.kind <= WAIT:
+        return answer_of_order(exchange, request)
+    if request.kind <= TICK:
+        return answer_of_doing(exchange, request)
+    return answer_of_telling(exchange, request)
 
 
 def answer_request(town, request):

@@ -1,4 +1,4 @@
-"""What an exchange keeps: its lines, groups and prices, and the calls that are on."""
+"""What an exchange keeps: its lines, groups and prices, the calls that are on, and the records of those that were."""
 
 IDLE = 0
 DIALS = 1
@@ -22,6 +22,7 @@ class Line:
         # One row of digits for each of ALWAYS, WHEN_BUSY, WHEN_UNANSWERED; an empty one hands nothing on.
         self.hands = [[], [], []]
         self.call = None
+        self.owed = 0
 
 
 class Group:
@@ -51,6 +52,9 @@ class Exchange:
         self.prices = {}
         # In the order in which they began to ring.
         self.calls = []
+        # In the order in which they ended; of each: from, to, since when they talked, when it ended, cents.
+        self.records = []
+        self.moved = 0
         self.time = 0
         self.wait = FIRST_WAIT
 

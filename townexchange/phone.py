@@ -1,9 +1,10 @@
-"""What is done at a telephone: lift, digit.
+"""What is done at a telephone: lift, digit, hang.
 
 Each answers a list: the number, then the numbers of the row.
 """
 
-from townexchange.hall import DIALS, IDLE, RINGS, TALKS
+from townexchange.ending import end_ringing, end_talk, make_idle
+from townexchange.hall import DIALS, IDLE, RINGS, TALKS, WAITS
 from townexchange.numbering import TOP_DIGIT, is_somebodys, some_number_begins
 from townexchange.refusals import NONE_SUCH, NOT_NOW
 from townexchange.trying import give_tone, try_number
@@ -43,3 +44,16 @@ def press_digit(exchange, request):
     elif not some_number_begins(exchange, dialed):
         give_tone(line)
     return [line.state, moved]
+
+
+def hang(exchange, request):
+    place = request.numbers[0]
+    line = exchange.lines[place]
+    if line.state == IDLE or line.state == RINGS:
+        return [NOT_NOW]
+    if line.state == TALKS:
+        return [0, end_talk(exchange, line.call, place)]
+    if line.state == WAITS:
+        end_ringing(exchange, line.call)
+    make_idle(line)
+    return [0]

@@ -9,6 +9,13 @@ HAND = 6
 WAIT = 7
 LIFT = 8
 DIGIT = 9
+HANG = 10
+TICK = 11
+LOOK = 12
+MIDDLE = 13
+OWES = 14
+RECORD = 15
+OWNER = 16
 
 # Of each call: how many whole numbers, then how many rows.
 FORMS = {

@@ -61,6 +61,7 @@ def try_number(exchange, caller, dialed, digits, handed_on):
         give_tone(exchange.lines[caller])
         return 0
     moved = put_on_a_way(exchange, call)
+    exchange.moved += moved
     exchange.calls.append(call)
     enter_call(exchange.lines[call.caller], WAITS, call)
     enter_call(exchange.lines[call.called], RINGS, call)
